@@ -336,14 +336,21 @@ func TestNoWay(t *testing.T) {
 	}
 }
 
-// What is no entry lies nowhere.
-func TestNoWayForNoEntry(t *testing.T) {
+// What is no entry is beyond no node, also where its key is behind the High: at its level the node is the one, above it
+// node.Child refuses it.
+func TestWayOfNoEntry(t *testing.T) {
 	e := entry("b", 1, 0)
-	for _, p := range []api.Page{node.Leaf(), bounded(leafOf(e), 7, e), innerOf(e), bounded(innerOf(), 7, e)} {
-		for level := 0; level <= p.Level; level++ {
-			for _, wrong := range wrongEntries() {
+	for _, p := range []api.Page{
+		node.Leaf(), leafOf(e), bounded(leafOf(e), 7, e), bounded(node.Leaf(), 0, e),
+		innerOf(e), bounded(innerOf(), 7, e), at(bounded(innerOf(), 7, e), 3), at(innerOf(e), 255),
+	} {
+		for _, wrong := range append(wrongEntries(), entry("z", -1, 0), entry("z", 0, 65536), entry("zzzzzzzzzzzzzzzzzzzzzzzzz", 1, 0)) {
+			wayIs(t, p, p.Level, wrong, 0, true)
+			for level := range p.Level {
 				wayFails(t, p, level, wrong)
 			}
+			wayFails(t, p, p.Level+1, wrong)
+			wayFails(t, p, -1, wrong)
 		}
 	}
 }

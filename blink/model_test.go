@@ -54,12 +54,14 @@ func isEntry(e api.Entry) bool {
 func wayModel(p api.Page, level int, e api.Entry) (int, bool, api.Errno) {
 	c, ok := contentOf(p)
 	switch {
-	case !ok || level < 0 || level > p.Level || !isEntry(e):
+	case !ok || level < 0 || level > p.Level:
 		return 0, false, api.ErrNode
-	case c.beyond(e):
+	case isEntry(e) && c.beyond(e):
 		return p.Right, false, api.OK
 	case level == p.Level:
 		return 0, true, api.OK
+	case !isEntry(e):
+		return 0, false, api.ErrNode
 	}
 	last := 0
 	for i, s := range c.list {
